@@ -1,0 +1,1 @@
+"""Plates of what was half seen."""
