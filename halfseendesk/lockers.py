@@ -1,14 +1,12 @@
 """Lockers: the kinds of flags that there are, and the text that tells them."""
 
 from halfseendesk.looks import SHAPES
-from halfseendesk.texts import BLANK, LINE_END, cut, place_among, places_in, read_colours, spelled
+from halfseendesk.texts import BLANK, cut, is_name, name_behind, place_among, read_colours, whole_lines
 
 SIGN = 0
 SAME = 1
 ROLES = ("sign", "same", "answer")
 WORDS_OF_ROLES = (5, 5, 4)
-NAME_SIGNS = "ABCDEFGHIJKLMNOPQRSTUVWXYZ0123456789"
-LONGEST_NAME = 8
 MOST_COPIES = 8
 MOST_SAME = 4
 MOST_SIGNS = 48
@@ -37,26 +35,18 @@ class Locker:
 
 
 def read_locker(text):
-    lines = cut(text, LINE_END)
-    rest = lines.pop()
-    if rest != [] or lines == []:
+    lines = whole_lines(text)
+    if lines is None or lines == []:
         raise NoLocker()
-    name = read_title(lines[0])
+    name = name_behind("locker", lines[0])
     kinds = [read_kind(line) for line in lines[1:]]
-    if not are_in_order(kinds) or not are_different(kinds):
+    if name is None or not are_in_order(kinds) or not are_different(kinds):
         raise NoLocker()
     return Locker(name, kinds)
 
 
-def read_title(line):
-    words = cut(line, BLANK)
-    if len(words) != 2 or words[0] != spelled("locker"):
-        raise NoLocker()
-    return read_name(words[1])
-
-
 def read_name(word):
-    if len(word) < 1 or len(word) > LONGEST_NAME or places_in(NAME_SIGNS, word) is None:
+    if not is_name(word):
         raise NoLocker()
     return word
 

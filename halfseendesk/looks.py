@@ -1,6 +1,7 @@
 """Looks: how the cells of a flag are seen in a light from a side."""
 
 SHAPES = ("square", "tails", "long")
+FRONT = 0
 BEHIND = 1
 COLOURS = 16
 CELLS = 16

@@ -1,10 +1,20 @@
 """The calls: each answers one list, a number and what is told behind it, or a refusal."""
 
+from halfseendesk.books import NoBook, read_book
 from halfseendesk.lockers import NoLocker, read_locker
-from halfseendesk.looks import BEHIND, cells_seen, classes_of
-from halfseendesk.platetexts import Glimpse, NoPlate, Plate, Sighting, plate_text, read_plate
+from halfseendesk.looks import BEHIND, classes_of
+from halfseendesk.platetexts import Glimpse, NoPlate, Plate, plate_text, read_plate
+from halfseendesk.readings import TooMuchInDoubt, readings_of
 from halfseendesk.showings import NoShowing, read_showing
+from halfseendesk.sights import sighting_of
 from halfseendesk.texts import MOST_BYTES
+
+
+class Finding:
+    def __init__(self, locker, plate, readings):
+        self.locker = locker
+        self.plate = plate
+        self.readings = readings
 
 
 def judge(p):
@@ -39,6 +49,43 @@ def plate_seen(locker, hoists, classes, side):
 
 
 def glimpse_of(locker, hoist, classes, side):
-    kinds = [locker.kinds[flag] for flag in hoist]
-    flags = [Sighting(kind.shape, cells_seen(kind.look, classes, side)) for kind in kinds]
-    return Glimpse(False, False, flags)
+    return Glimpse(False, False, [sighting_of(locker.kinds[flag], classes, side) for flag in hoist])
+
+
+def many(t, b, p):
+    return answered(t, b, p, lambda finding: [0, len(finding.readings)])
+
+
+def nth(i, t, b, p):
+    return answered(t, b, p, lambda finding: nth_told(i, finding))
+
+
+def nth_told(i, finding):
+    if i >= len(finding.readings):
+        return [-4]
+    numbers = finding.readings[i].entries
+    return [len(numbers)] + numbers
+
+
+# The refusals that all calls with a book have, and then what is to be told of the readings.
+def answered(t, b, p, told):
+    if max(len(t), len(b), len(p)) > MOST_BYTES:
+        return [-2]
+    try:
+        finding = found(t, b, p)
+    except NoLocker:
+        return [-6]
+    except NoBook:
+        return [-9]
+    except NoPlate:
+        return [-8]
+    except TooMuchInDoubt:
+        return [-7]
+    return told(finding)
+
+
+def found(t, b, p):
+    locker = read_locker(t)
+    book = read_book(locker, b)
+    plate = read_plate(p)
+    return Finding(locker, plate, readings_of(locker, book, plate))

@@ -5,9 +5,12 @@ from halfseendesk.showings import MOST_FLAGS, MOST_HOISTS
 from halfseendesk.texts import BLANK, LINE_END, cut, place_among, places_in, read_colours, spelled
 
 SIDES = ("front", "behind", "unknown")
+UNKNOWN_SIDE = 2
 HOIST_LINES = ("hoist", "hoist above", "hoist below", "hoist above below")
 SEEN_SHAPES = ("square", "tails", "long", "shape?")
 SEEN_SIGNS = "0123456789abcdef?"
+UNSEEN_SHAPE = 3
+UNSEEN_CELL = 16
 
 SIDE_LINE = 0
 HOIST_LINE = 1

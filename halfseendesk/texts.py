@@ -4,6 +4,8 @@ MOST_BYTES = 65536
 LINE_END = 10
 BLANK = 32
 COLOUR_SIGNS = "0123456789abcdef"
+NAME_SIGNS = "ABCDEFGHIJKLMNOPQRSTUVWXYZ0123456789"
+LONGEST_NAME = 8
 
 
 def spelled(written):
@@ -20,6 +22,13 @@ def cut(text, mark):
         else:
             parts[-1].append(byte)
     return parts
+
+
+# None: there are bytes behind the last byte 10, a line that lacks its own.
+def whole_lines(text):
+    lines = cut(text, LINE_END)
+    rest = lines.pop()
+    return lines if rest == [] else None
 
 
 def place_among(words, part):
@@ -40,3 +49,15 @@ def read_colours(part):
     if len(part) != 16:
         return None
     return places_in(COLOUR_SIGNS, part)
+
+
+def is_name(part):
+    return 1 <= len(part) <= LONGEST_NAME and places_in(NAME_SIGNS, part) is not None
+
+
+# The name in a line of two words, of which the first is the title.
+def name_behind(title, line):
+    words = cut(line, BLANK)
+    if len(words) != 2 or words[0] != spelled(title) or not is_name(words[1]):
+        return None
+    return words[1]

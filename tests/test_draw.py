@@ -4,7 +4,7 @@ import unittest
 
 from halfseendesk.plates import draw, judge
 from tests.samples import (
-    A, B, C, LIGHT_PLAIN, LOCKER_LINES, SAME_1, SAME_3, locker, text, written,
+    A, B, C, LIGHT_PLAIN, LOCKER_LINES, SAME_1, SAME_3, locker, numbers_of, text, written,
 )
 
 # In this light colours 0 and 1 look alike, 14 and 15 too, and no colour's class is its own number.
@@ -24,13 +24,6 @@ def drawn_by_words(light, side, hoists):
             rows = [seen[start:start + 4] for start in (0, 4, 8, 12)]
             lines += [shape] + [row[::-1] if side else row for row in rows]
     return lines
-
-
-def numbers_of(hoists):
-    numbers = [len(hoists)]
-    for hoist in hoists:
-        numbers += [len(hoist), *hoist]
-    return numbers
 
 
 SHOWINGS = (

@@ -4,8 +4,8 @@ import inspect
 import sys
 import unittest
 
-from halfseendesk.plates import draw, judge
-from tests.samples import LIGHT_PLAIN, locker, plate_lines, text
+from halfseendesk.plates import draw, judge, many, nth
+from tests.samples import LIGHT_PLAIN, blotted, book, locker, many_signs, plate_lines, text
 
 PLATES = (
     text(*plate_lines(1)), text(*plate_lines(8, 8, 8, 8)), text(*plate_lines(2, 1))[:-1], [], [10], [0, 255] * 500,
@@ -17,11 +17,24 @@ DRAWINGS = (
     (0, 0, [], [1, 1, 0]), (0, 0, [10] * 65536, [1, 1, 0]), (0, 0, [10] * 65537, [1, 1, 0]),
     (0, 0, locker(), [4] * 64),
 )
+BOOK = book("A", "B", "C", "A.A", "B.B", "C.A.A.A")
+# A locker, a book and a plate each: with readings, without any, and refused in each way.
+SIGHTS = (
+    (locker(), BOOK, blotted(1)), (locker(), BOOK, blotted(2, 1, side="unknown")), (locker(), BOOK, blotted(4, 2)),
+    (locker(), BOOK, blotted((1, " above"), (2, " above below"))), (locker(), BOOK, blotted(8)),
+    (locker(), BOOK, draw(LIGHT_PLAIN, 1, locker(), [2, 2, 1, 3, 1, 0])[1:]), (locker(), book(), blotted(1)),
+    (locker(), BOOK, [10] * 65537), (locker(), [10] * 65537, blotted(1)), ([10] * 65537, BOOK, blotted(1)),
+    (locker()[:-1], BOOK, blotted(1)), (locker(), BOOK[:-1], blotted(1)), (locker(), BOOK, blotted(1)[:-1]),
+    ([], [], []), (locker(), BOOK, blotted(*[(1, " below")] * 4)),
+)
+INDEXES = (0, 1, 2, 100, 2 ** 64 - 1)
 
 
 class Interface(unittest.TestCase):
     def calls(self):
-        return [(judge, (p,)) for p in PLATES] + [(draw, drawing) for drawing in DRAWINGS]
+        calls = [(judge, (p,)) for p in PLATES] + [(draw, drawing) for drawing in DRAWINGS]
+        calls += [(many, sight) for sight in SIGHTS]
+        return calls + [(nth, (i, *sight)) for sight in SIGHTS for i in INDEXES]
 
     def copied(self, arguments):
         return tuple(list(value) if isinstance(value, list) else value for value in arguments)
@@ -29,8 +42,12 @@ class Interface(unittest.TestCase):
     def test_names_and_order_of_the_arguments(self):
         self.assertEqual(list(inspect.signature(judge).parameters), ["p"])
         self.assertEqual(list(inspect.signature(draw).parameters), ["light", "side", "t", "s"])
+        self.assertEqual(list(inspect.signature(many).parameters), ["t", "b", "p"])
+        self.assertEqual(list(inspect.signature(nth).parameters), ["i", "t", "b", "p"])
         self.assertEqual(judge(p=text(*plate_lines(1, 1))), [2])
         self.assertEqual(draw(s=[1, 1, 0], t=locker(), side=2, light=0), [-1])
+        self.assertEqual(many(p=blotted(1), b=BOOK, t=locker()), [0, 3])
+        self.assertEqual(nth(p=blotted(1), b=BOOK, t=locker(), i=2), [1, 2])
 
     def test_one_list_of_whole_numbers(self):
         for function, arguments in self.calls():
@@ -42,9 +59,10 @@ class Interface(unittest.TestCase):
         for function, arguments in self.calls():
             answer = function(*self.copied(arguments))
             if answer[0] < 0:
-                self.assertEqual(len(answer), 3 if answer[0] == -8 else 1)
+                self.assertEqual(len(answer), 3 if answer[0] == -8 and function is judge else 1)
             else:
-                self.assertEqual(len(answer), 1 if function is judge else 1 + answer[0])
+                behind = {judge: 0, many: 1}.get(function, answer[0])
+                self.assertEqual(len(answer), 1 + behind)
 
     def test_what_is_handed_in_stays_as_it_was(self):
         for function, arguments in self.calls():
@@ -85,6 +103,11 @@ class Interface(unittest.TestCase):
             judge(text(*plate_lines(8, 8, 8, 8)))
             draw(0, 0, text("locker L", *["sign A 1 square 0000000000000000"] * 1900), [4] * 64)
             draw(0, 0, locker(), [1, 8, 2, 2, 2, 2, 2, 2, 2, 2])
+            signs = many_signs(32)
+            names = [line.split()[1] for line in signs]
+            many(text("locker DESK", *signs), book(*names), blotted(1, 1, side="unknown"))
+            many(locker(), book() + text("A m") * 16000, blotted(1))
+            many(locker(), BOOK, blotted(8, 8, 8, 8))
         finally:
             sys.setrecursionlimit(limit)
 

@@ -3,16 +3,12 @@
 import unittest
 
 from halfseendesk.plates import draw
-from tests.samples import LIGHT_PLAIN, locker, text
+from tests.samples import LIGHT_PLAIN, locker, many_signs, text
 
 ONE = "sign A 1 square 0123456789abcdef"
 TWO = "sign B 1 tails 0123456789abcdef"
 SAMES = [f"same {k} 1 long 000000000000000{k}" for k in range(1, 5)]
 ANSWER = "answer 1 tails 1111111111111111"
-
-
-def many_signs(many):
-    return [f"sign S{n} 1 square {n:016x}" for n in range(many)]
 
 
 class LockerTests(unittest.TestCase):
