@@ -1,5 +1,6 @@
 """The calls: each answers one list, a number and what is told behind it, or a refusal."""
 
+from halfseendesk.asking import CutOff, NeverSettled, NoReading, TooMuchToAsk, fewest_flags
 from halfseendesk.books import NoBook, read_book
 from halfseendesk.lockers import NoLocker, read_locker
 from halfseendesk.looks import BEHIND, classes_of
@@ -65,6 +66,35 @@ def nth_told(i, finding):
         return [-4]
     numbers = finding.readings[i].entries
     return [len(numbers)] + numbers
+
+
+def entries(j, t, b, p):
+    return answered(t, b, p, lambda finding: entries_told(j, finding))
+
+
+def entries_told(j, finding):
+    if j >= len(finding.plate.glimpses):
+        return [-4]
+    numbers = sorted(set([reading.entries[j] for reading in finding.readings]))
+    return [len(numbers)] + numbers
+
+
+def ask(t, b, p):
+    return answered(t, b, p, ask_told)
+
+
+def ask_told(finding):
+    try:
+        fewest = fewest_flags(finding.locker.kinds, finding.plate, finding.readings)
+    except CutOff:
+        return [-3]
+    except NoReading:
+        return [-5]
+    except TooMuchToAsk:
+        return [-7]
+    except NeverSettled:
+        return [-10]
+    return list(fewest)
 
 
 # The refusals that all calls with a book have, and then what is to be told of the readings.

@@ -2,6 +2,9 @@
 
 import functools
 import itertools
+import random
+
+from halfseendesk.plates import draw, many, nth
 
 LIGHT_PLAIN = 0xFEDCBA9876543210
 LIGHT_PLAIN_WORD = "0123456789abcdef"
@@ -109,7 +112,11 @@ def meant(kinds, hoist):
 
 @functools.lru_cache(None)
 def hoists_that_mean(kinds, row):
-    return [hoist for hoist in itertools.product(range(len(kinds)), repeat=len(row)) if meant(kinds, hoist) == row]
+    hoists = [()]
+    for length in range(1, len(row) + 1):
+        longer = [(*hoist, flag) for hoist in hoists for flag in range(len(kinds))]
+        hoists = [hoist for hoist in longer if meant(kinds, hoist) == row[:length]]
+    return hoists
 
 
 def displays_of(kinds, rows):
@@ -158,12 +165,14 @@ def write_plainly(side, light, glimpses):
     return text(*lines)
 
 
+def from_behind(cells):
+    return "".join(cells[start:start + 4][::-1] for start in (0, 4, 8, 12))
+
+
 def face(kind, light, side):
     """Shape and cells of a kind in a light, from a side."""
     seen = "".join(light[int(colour, 16)] for colour in kind[5])
-    if side == "behind":
-        seen = "".join(seen[start:start + 4][::-1] for start in (0, 4, 8, 12))
-    return kind[4], seen
+    return kind[4], from_behind(seen) if side == "behind" else seen
 
 
 def looks_so(half, whole):
@@ -203,18 +212,52 @@ def plain_readings(t, b, p):
     return readings
 
 
-def random_locker(chance, signs=3, copies=2, looks=("0", "1")):
-    """A small locker whose kinds look much alike: few colours, and most of the cells of one colour."""
+def plain_ask(t, b, p):
+    """What ask answers, but for the refusals that all calls have, by trying all choices of flags."""
+    side, light, glimpses = read_plainly(p)
+    readings = plain_readings(t, b, p)
+    places = [(j, place) for j, glimpse in enumerate(glimpses) for place in range(len(glimpse[2]))]
+    if any(above or below for above, below, flags in glimpses):
+        return [-3]
+    if not readings:
+        return [-5]
+    if len(places) > 12 or len(readings) > 64:
+        return [-7]
+    kinds = kinds_of(t)
+    looks = [(numbers, [face(kinds[hoists[j][place]], light, seen_from) for j, place in places])
+             for numbers, hoists, sides in readings for seen_from in sides]
+    for size in range(len(places) + 1):
+        settling = [choice for choice in itertools.combinations(range(len(places)), size)
+                    if all(one[0] == other[0] or any(one[1][k] != other[1][k] for k in choice)
+                           for one, other in itertools.combinations(looks, 2))]
+        if settling:
+            return [size, min(sum(1 << 8 * places[k][0] + places[k][1] for k in choice) for choice in settling)]
+    return [-10]
+
+
+def told_readings(t, b, p):
+    """The readings by many and nth; or the refusal."""
+    answer = many(t, b, p)
+    if answer[0] != 0:
+        return answer
+    return [nth(i, t, b, p)[1:] for i in range(answer[1])]
+
+
+def random_locker(chance, copies):
+    """A small locker whose kinds look much alike: few colours, most cells of one, some kinds others from behind."""
     faces = set()
-    while len(faces) < signs + 3:
+    while len(faces) < 6:
         cells = ["0"] * 16
         for cell in chance.sample(range(16), 2):
-            cells[cell] = chance.choice(looks)
-        faces.add((chance.choice(["square", "tails"]), "".join(cells)))
-    faces = chance.sample(sorted(faces), signs + 3)
+            cells[cell] = chance.choice("012")
+        shape = chance.choice(["square", "tails"])
+        faces.add((shape, "".join(cells)))
+        if chance.random() < 0.4:
+            faces.add((shape, from_behind("".join(cells))))
+    faces = chance.sample(sorted(faces), 6)
     lines = ["locker DESK"]
-    for number in range(chance.randint(1, signs)):
-        lines.append(f"sign {'ABCDEFGH'[number]} {chance.randint(1, copies)} {' '.join(faces.pop())}")
+    for name in "ABC"[:chance.choice([1, 2, 2, 3, 3])]:
+        lines.append(f"sign {name} {chance.randint(1, copies)} {' '.join(faces.pop())}")
     for which in sorted(chance.sample(range(1, 5), chance.randint(0, 2))):
         lines.append(f"same {which} {chance.randint(1, copies)} {' '.join(faces.pop())}")
     if chance.random() < 0.3:
@@ -266,3 +309,18 @@ def random_showing(chance, t, b, hoists):
         if display:
             return numbers, display
     return None
+
+
+def showings(seed, trials, entries=8, copies=2):
+    """Lockers, books, entries of these, and the whole plate drawn of their showing in some light from some side."""
+    chance = random.Random(seed)
+    for trial in range(trials):
+        t = random_locker(chance, copies)
+        hoists = chance.choice([1, 1, 2, 2, 3])
+        b = random_book(chance, t, entries, 4 if hoists < 3 else 3)
+        shown = random_showing(chance, t, b, hoists)
+        if shown is not None:
+            light = random_light(chance)
+            side = chance.randrange(2)
+            p = draw(light_number(light), side, t, numbers_of(shown[1]))[1:]
+            yield chance, t, b, p, shown[0]

@@ -4,7 +4,7 @@ import inspect
 import sys
 import unittest
 
-from halfseendesk.plates import draw, judge, many, nth
+from halfseendesk.plates import ask, draw, entries, judge, many, nth
 from tests.samples import LIGHT_PLAIN, blotted, book, locker, many_signs, plate_lines, text
 
 PLATES = (
@@ -23,6 +23,7 @@ SIGHTS = (
     (locker(), BOOK, blotted(1)), (locker(), BOOK, blotted(2, 1, side="unknown")), (locker(), BOOK, blotted(4, 2)),
     (locker(), BOOK, blotted((1, " above"), (2, " above below"))), (locker(), BOOK, blotted(8)),
     (locker(), BOOK, draw(LIGHT_PLAIN, 1, locker(), [2, 2, 1, 3, 1, 0])[1:]), (locker(), book(), blotted(1)),
+    (locker(), BOOK, blotted(4, 1, 1)), (locker(), book("C.C.C.C", "A.A.A.B.B"), blotted(4, 4, 5)),
     (locker(), BOOK, [10] * 65537), (locker(), [10] * 65537, blotted(1)), ([10] * 65537, BOOK, blotted(1)),
     (locker()[:-1], BOOK, blotted(1)), (locker(), BOOK[:-1], blotted(1)), (locker(), BOOK, blotted(1)[:-1]),
     ([], [], []), (locker(), BOOK, blotted(*[(1, " below")] * 4)),
@@ -33,8 +34,8 @@ INDEXES = (0, 1, 2, 100, 2 ** 64 - 1)
 class Interface(unittest.TestCase):
     def calls(self):
         calls = [(judge, (p,)) for p in PLATES] + [(draw, drawing) for drawing in DRAWINGS]
-        calls += [(many, sight) for sight in SIGHTS]
-        return calls + [(nth, (i, *sight)) for sight in SIGHTS for i in INDEXES]
+        calls += [(function, sight) for function in (many, ask) for sight in SIGHTS]
+        return calls + [(function, (i, *sight)) for function in (nth, entries) for sight in SIGHTS for i in INDEXES]
 
     def copied(self, arguments):
         return tuple(list(value) if isinstance(value, list) else value for value in arguments)
@@ -44,10 +45,14 @@ class Interface(unittest.TestCase):
         self.assertEqual(list(inspect.signature(draw).parameters), ["light", "side", "t", "s"])
         self.assertEqual(list(inspect.signature(many).parameters), ["t", "b", "p"])
         self.assertEqual(list(inspect.signature(nth).parameters), ["i", "t", "b", "p"])
+        self.assertEqual(list(inspect.signature(entries).parameters), ["j", "t", "b", "p"])
+        self.assertEqual(list(inspect.signature(ask).parameters), ["t", "b", "p"])
         self.assertEqual(judge(p=text(*plate_lines(1, 1))), [2])
         self.assertEqual(draw(s=[1, 1, 0], t=locker(), side=2, light=0), [-1])
         self.assertEqual(many(p=blotted(1), b=BOOK, t=locker()), [0, 3])
         self.assertEqual(nth(p=blotted(1), b=BOOK, t=locker(), i=2), [1, 2])
+        self.assertEqual(entries(p=blotted(1), b=BOOK, t=locker(), j=0), [3, 0, 1, 2])
+        self.assertEqual(ask(p=blotted(1), b=BOOK, t=locker()), [1, 1])
 
     def test_one_list_of_whole_numbers(self):
         for function, arguments in self.calls():
@@ -61,7 +66,7 @@ class Interface(unittest.TestCase):
             if answer[0] < 0:
                 self.assertEqual(len(answer), 3 if answer[0] == -8 and function is judge else 1)
             else:
-                behind = {judge: 0, many: 1}.get(function, answer[0])
+                behind = {judge: 0, many: 1, ask: 1}.get(function, answer[0])
                 self.assertEqual(len(answer), 1 + behind)
 
     def test_what_is_handed_in_stays_as_it_was(self):
@@ -108,6 +113,8 @@ class Interface(unittest.TestCase):
             many(text("locker DESK", *signs), book(*names), blotted(1, 1, side="unknown"))
             many(locker(), book() + text("A m") * 16000, blotted(1))
             many(locker(), BOOK, blotted(8, 8, 8, 8))
+            ask(text("locker DESK", *signs), book(".".join(names[:8])), blotted(8, side="unknown"))
+            entries(1, text("locker DESK", *signs), book(*names), blotted(1, 1, side="unknown"))
         finally:
             sys.setrecursionlimit(limit)
 

@@ -1,45 +1,20 @@
 """Promises 2, 3 and 5, as many and nth tell them: for showings of entries of all sorts, blotted in all ways."""
 
-import random
 import unittest
 
-from halfseendesk.plates import draw, many, nth
+from halfseendesk.plates import draw
 from tests.samples import (
-    blot, face, kinds_of, light_number, numbers_of, plain_readings, random_book, random_light, random_locker,
-    random_showing, read_plainly,
+    blot, face, kinds_of, light_number, numbers_of, plain_readings, read_plainly, showings, told_readings,
 )
-
-
-def told(t, b, p):
-    """The readings by many and nth."""
-    answer = many(t, b, p)
-    if answer[0] != 0:
-        return answer
-    return [nth(i, t, b, p)[1:] for i in range(answer[1])]
-
-
-def showings(seed, trials, entries=8):
-    """Lockers, books, entries of these, the light and the whole plate drawn of their showing."""
-    chance = random.Random(seed)
-    for trial in range(trials):
-        t = random_locker(chance)
-        hoists = chance.choice([1, 1, 2, 2, 3])
-        b = random_book(chance, t, entries, 4 if hoists < 3 else 3)
-        shown = random_showing(chance, t, b, hoists)
-        if shown is not None:
-            light = random_light(chance)
-            side = chance.randrange(2)
-            p = draw(light_number(light), side, t, numbers_of(shown[1]))[1:]
-            yield chance, t, b, p, shown[0]
 
 
 class Promise2(unittest.TestCase):
     def test_what_was_shown_is_among_the_readings(self):
         for chance, t, b, p, entries in showings(21, 250):
-            self.assertIn(entries, told(t, b, p))
+            self.assertIn(entries, told_readings(t, b, p))
             for how_much in (0.1, 0.3, 0.6, 0.9, 1):
-                self.assertIn(entries, told(t, b, blot(chance, p, how_much)))
-                self.assertIn(entries, told(t, b, blot(chance, p, how_much, cuts=False)))
+                self.assertIn(entries, told_readings(t, b, blot(chance, p, how_much)))
+                self.assertIn(entries, told_readings(t, b, blot(chance, p, how_much, cuts=False)))
 
     def test_all_made_out_in_a_light_that_tells_all_kinds_apart(self):
         apart = 0
@@ -48,7 +23,7 @@ class Promise2(unittest.TestCase):
             faces = {face(kind, light, side) for kind in kinds_of(t)}
             if len(faces) == len(kinds_of(t)):
                 apart += 1
-                self.assertEqual(told(t, b, p), [entries])
+                self.assertEqual(told_readings(t, b, p), [entries])
         self.assertGreater(apart, 100)
 
 
@@ -59,7 +34,7 @@ class Promise3(unittest.TestCase):
             for how_much in (0, 0.15, 0.5, 0.9):
                 less = blot(chance, p, how_much)
                 expected = [numbers for numbers, hoists, sides in plain_readings(t, b, less)]
-                self.assertEqual(told(t, b, less), expected)
+                self.assertEqual(told_readings(t, b, less), expected)
                 several += len(expected) > 1
         self.assertGreater(several, 200)
 
@@ -70,7 +45,7 @@ class Promise3(unittest.TestCase):
             text = bytes(p).decode().replace(light, light[::-1], 1).encode()
             less = blot(chance, list(text), 0.6)
             expected = [numbers for numbers, hoists, sides in plain_readings(t, b, less)]
-            self.assertEqual(told(t, b, less), expected)
+            self.assertEqual(told_readings(t, b, less), expected)
             readings += expected == []
         self.assertGreater(readings, 20)
 
@@ -81,17 +56,17 @@ class Promise3(unittest.TestCase):
                 for side in sides:
                     light = read_plainly(less)[1]
                     whole = draw(light_number(light), ("front", "behind").index(side), t, numbers_of(hoists))[1:]
-                    self.assertIn(numbers, told(t, b, whole))
+                    self.assertIn(numbers, told_readings(t, b, whole))
 
 
 class Promise5(unittest.TestCase):
     def test_more_made_out_no_more_readings(self):
         fewer = 0
         for chance, t, b, p, entries in showings(51, 200):
-            before = told(t, b, p)
+            before = told_readings(t, b, p)
             for step in range(5):
                 p = blot(chance, p, 0.25)
-                behind = told(t, b, p)
+                behind = told_readings(t, b, p)
                 self.assertEqual([numbers for numbers in before if numbers not in behind], [])
                 fewer += len(before) < len(behind)
                 before = behind
