@@ -8,12 +8,14 @@ from halfseendesk.platetexts import Glimpse, NoPlate, Plate, plate_text, read_pl
 from halfseendesk.readings import TooMuchInDoubt, readings_of
 from halfseendesk.showings import NoShowing, read_showing
 from halfseendesk.sights import sighting_of
+from halfseendesk.tellings import TellsNothing, entries_tell
 from halfseendesk.texts import MOST_BYTES
 
 
 class Finding:
-    def __init__(self, locker, plate, readings):
+    def __init__(self, locker, book, plate, readings):
         self.locker = locker
+        self.book = book
         self.plate = plate
         self.readings = readings
 
@@ -97,6 +99,20 @@ def ask_told(finding):
     return list(fewest)
 
 
+def says(i, t, b, p):
+    return answered(t, b, p, lambda finding: says_told(i, finding))
+
+
+def says_told(i, finding):
+    if i >= len(finding.readings):
+        return [-4]
+    try:
+        text = entries_tell([finding.book.entries[number] for number in finding.readings[i].entries])
+    except TellsNothing:
+        return [-5]
+    return [len(text)] + text
+
+
 # The refusals that all calls with a book have, and then what is to be told of the readings.
 def answered(t, b, p, told):
     if max(len(t), len(b), len(p)) > MOST_BYTES:
@@ -118,4 +134,4 @@ def found(t, b, p):
     locker = read_locker(t)
     book = read_book(locker, b)
     plate = read_plate(p)
-    return Finding(locker, plate, readings_of(locker, book, plate))
+    return Finding(locker, book, plate, readings_of(locker, book, plate))

@@ -235,6 +235,32 @@ def plain_ask(t, b, p):
     return [-10]
 
 
+def looked_at(t, p, hoists, side, choice):
+    """The plate with the flags of these bits wholly made out, as they look in that display from that side."""
+    plate_side, light, glimpses = read_plainly(p)
+    kinds = kinds_of(t)
+    seen = [(above, below, [
+        face(kinds[hoists[j][place]], light, side) if choice >> 8 * j + place & 1 else flag
+        for place, flag in enumerate(flags)]) for j, (above, below, flags) in enumerate(glimpses)]
+    return write_plainly(plate_side, light, seen)
+
+
+def all_left(t, b, p, choice):
+    """Of each reading, from each side that it may have been seen from: it, and the readings left behind these flags."""
+    for numbers, hoists, sides in plain_readings(t, b, p):
+        for side in sides:
+            yield numbers, told_readings(t, b, looked_at(t, p, hoists, side, choice))
+
+
+def plain_says(b, numbers):
+    """What says answers of the reading of these entries, by the book's text."""
+    meanings = [lines_of(b)[2 + number].split(" ", 1)[1] for number in numbers]
+    if "spell" in meanings or "more" in meanings:
+        return [-5]
+    told = " ".join(meanings)
+    return [len(told), *told.encode("latin-1")]
+
+
 def told_readings(t, b, p):
     """The readings by many and nth; or the refusal."""
     answer = many(t, b, p)
@@ -272,6 +298,12 @@ def random_book(chance, t, entries, longest=4):
     shown = [row for row in rows if any(True for display in displays_of(kinds, [row]))]
     kept = sorted(chance.sample(shown, min(entries, len(shown))), key=lambda row: (len(row), row))
     return book(*[".".join(kinds[sign][1] for sign in row) for row in kept])
+
+
+def with_meanings(chance, b):
+    """The book with other meanings, among them those of which nothing is told."""
+    meanings = ("come", "go", "on and on", "spell", "more", "spell it", "no more", "!", "m" * 64)
+    return book(*[line.split(" ")[0] + " " + chance.choice(meanings) for line in lines_of(b)[2:]])
 
 
 def random_light(chance):

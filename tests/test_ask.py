@@ -6,8 +6,8 @@ import unittest
 
 from halfseendesk.plates import ask, draw, many
 from tests.samples import (
-    BLOT, LIGHT_PLAIN, LIGHT_PLAIN_WORD, blot, blotted, book, face, kinds_of, locker, many_signs, numbers_of,
-    plain_ask, plain_readings, read_plainly, showings, text, told_readings, write_plainly,
+    BLOT, LIGHT_PLAIN, LIGHT_PLAIN_WORD, all_left, blot, blotted, book, face, kinds_of, locker, many_signs, numbers_of,
+    plain_ask, plain_readings, read_plainly, showings, text,
 )
 
 # A and B are each the other one from behind; C looks the same from both sides, D like no other from any.
@@ -239,23 +239,12 @@ class AgainstAPlainSearch(unittest.TestCase):
 
 
 class Promise6(unittest.TestCase):
-    def looked_at(self, t, p, hoists, side, choice):
-        """The plate with these flags wholly made out, as they look in that display from that side."""
-        plate_side, light, glimpses = read_plainly(p)
-        kinds = kinds_of(t)
-        seen = [(above, below, [
-            face(kinds[hoists[j][place]], light, side) if choice >> 8 * j + place & 1 else flag
-            for place, flag in enumerate(flags)]) for j, (above, below, flags) in enumerate(glimpses)]
-        return write_plainly(plate_side, light, seen)
-
     def left(self, t, b, p, choice):
         """The most readings that are left behind these flags, whatever was shown from whatever side."""
         most = 0
-        for numbers, hoists, sides in plain_readings(t, b, p):
-            for side in sides:
-                readings = told_readings(t, b, self.looked_at(t, p, hoists, side, choice))
-                self.assertIn(numbers, readings)
-                most = max(most, len(readings))
+        for numbers, readings in all_left(t, b, p, choice):
+            self.assertIn(numbers, readings)
+            most = max(most, len(readings))
         return most
 
     def plates(self, seed, trials):

@@ -4,7 +4,7 @@ import inspect
 import sys
 import unittest
 
-from halfseendesk.plates import ask, draw, entries, judge, many, nth
+from halfseendesk.plates import ask, draw, entries, judge, many, nth, says
 from tests.samples import LIGHT_PLAIN, blotted, book, locker, many_signs, plate_lines, text
 
 PLATES = (
@@ -17,7 +17,7 @@ DRAWINGS = (
     (0, 0, [], [1, 1, 0]), (0, 0, [10] * 65536, [1, 1, 0]), (0, 0, [10] * 65537, [1, 1, 0]),
     (0, 0, locker(), [4] * 64),
 )
-BOOK = book("A", "B", "C", "A.A", "B.B", "C.A.A.A")
+BOOK = book("A come", "B spell", "C go away", "A.A", "B.B more", "C.A.A.A stay")
 # A locker, a book and a plate each: with readings, without any, and refused in each way.
 SIGHTS = (
     (locker(), BOOK, blotted(1)), (locker(), BOOK, blotted(2, 1, side="unknown")), (locker(), BOOK, blotted(4, 2)),
@@ -35,7 +35,8 @@ class Interface(unittest.TestCase):
     def calls(self):
         calls = [(judge, (p,)) for p in PLATES] + [(draw, drawing) for drawing in DRAWINGS]
         calls += [(function, sight) for function in (many, ask) for sight in SIGHTS]
-        return calls + [(function, (i, *sight)) for function in (nth, entries) for sight in SIGHTS for i in INDEXES]
+        numbered = (nth, entries, says)
+        return calls + [(function, (i, *sight)) for function in numbered for sight in SIGHTS for i in INDEXES]
 
     def copied(self, arguments):
         return tuple(list(value) if isinstance(value, list) else value for value in arguments)
@@ -47,12 +48,14 @@ class Interface(unittest.TestCase):
         self.assertEqual(list(inspect.signature(nth).parameters), ["i", "t", "b", "p"])
         self.assertEqual(list(inspect.signature(entries).parameters), ["j", "t", "b", "p"])
         self.assertEqual(list(inspect.signature(ask).parameters), ["t", "b", "p"])
+        self.assertEqual(list(inspect.signature(says).parameters), ["i", "t", "b", "p"])
         self.assertEqual(judge(p=text(*plate_lines(1, 1))), [2])
         self.assertEqual(draw(s=[1, 1, 0], t=locker(), side=2, light=0), [-1])
         self.assertEqual(many(p=blotted(1), b=BOOK, t=locker()), [0, 3])
         self.assertEqual(nth(p=blotted(1), b=BOOK, t=locker(), i=2), [1, 2])
         self.assertEqual(entries(p=blotted(1), b=BOOK, t=locker(), j=0), [3, 0, 1, 2])
         self.assertEqual(ask(p=blotted(1), b=BOOK, t=locker()), [1, 1])
+        self.assertEqual(says(p=blotted(1), b=BOOK, t=locker(), i=2), [7, *b"go away"])
 
     def test_one_list_of_whole_numbers(self):
         for function, arguments in self.calls():
@@ -115,6 +118,7 @@ class Interface(unittest.TestCase):
             many(locker(), BOOK, blotted(8, 8, 8, 8))
             ask(text("locker DESK", *signs), book(".".join(names[:8])), blotted(8, side="unknown"))
             entries(1, text("locker DESK", *signs), book(*names), blotted(1, 1, side="unknown"))
+            says(9, text("locker DESK", *signs), book(*[name + " " + "m" * 64 for name in names]), blotted(1, 1))
         finally:
             sys.setrecursionlimit(limit)
 
